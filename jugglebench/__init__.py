@@ -1,0 +1,1 @@
+"""A juggler's bench: what can be told of patterns of throws."""

@@ -1,0 +1,163 @@
+"""Patterns and states.
+
+A beat is a list of its heights, from the highest on (none: an empty list), so that Python's own order of lists
+is the order by which beats and patterns are compared. A pattern is a list of beats. A state is a tuple of
+fifteen numbers.
+"""
+
+MOST_BEATS = 16
+MOST_THROWS = 3
+SPAN = 15
+
+ZERO = 48
+NINE = 57
+LETTER_A = 97
+LETTER_F = 102
+OPENING = 91
+CLOSING = 93
+
+
+# -1 stands for what is no digit, so that "at least 0" and "at least 1" ask for a digit and for one that's not 0.
+def height_of(byte):
+    if ZERO <= byte <= NINE:
+        return byte - ZERO
+    if LETTER_A <= byte <= LETTER_F:
+        return byte - LETTER_A + 10
+    return -1
+
+
+def digit_of(height):
+    if height < 10:
+        return ZERO + height
+    return LETTER_A + height - 10
+
+
+def bracket_fault(t, start):
+    for place in range(start + 1, len(t)):
+        held = place - start - 1
+        if t[place] == CLOSING:
+            return -1 if held >= 2 else place
+        if held == MOST_THROWS or height_of(t[place]) < 1:
+            return place
+    return len(t)
+
+
+def beat_fault(t, start):
+    if t[start] == OPENING:
+        return bracket_fault(t, start)
+    return -1 if height_of(t[start]) >= 0 else start
+
+
+# Only asked of a beat without a fault, so a bracket is sure to be closed.
+def beat_end(t, start):
+    if t[start] == OPENING:
+        return t.index(CLOSING, start) + 1
+    return start + 1
+
+
+# The place of the text's fault, -1 if it has none.
+def text_fault(t):
+    if len(t) == 0:
+        return 0
+    begun = 0
+    place = 0
+    while place < len(t):
+        if begun == MOST_BEATS:
+            return place
+        fault = beat_fault(t, place)
+        if fault >= 0:
+            return fault
+        begun += 1
+        place = beat_end(t, place)
+    return -1
+
+
+# Only asked of a text without a fault. Brackets and the digit 0 are no throws: both have no height above 0.
+def read_beats(t):
+    beats = []
+    place = 0
+    while place < len(t):
+        end = beat_end(t, place)
+        heights = [height_of(byte) for byte in t[place:end]]
+        beats.append(sorted([height for height in heights if height > 0], reverse=True))
+        place = end
+    return beats
+
+
+def beat_text(beat):
+    if len(beat) == 0:
+        return [ZERO]
+    digits = [digit_of(height) for height in beat]
+    if len(beat) == 1:
+        return digits
+    return [OPENING] + digits + [CLOSING]
+
+
+def told_text(beats):
+    text = []
+    for beat in beats:
+        text.extend(beat_text(beat))
+    return [len(text)] + text
+
+
+def landing_counts(beats):
+    period = len(beats)
+    landing = [0] * period
+    for start in range(period):
+        for height in beats[start]:
+            landing[(start + height) % period] += 1
+    return landing
+
+
+# The first beat on which not as many land as are thrown, -1 if the pattern is right.
+def wrong_beat(beats):
+    landing = landing_counts(beats)
+    for beat in range(len(beats)):
+        if landing[beat] != len(beats[beat]):
+            return beat
+    return -1
+
+
+# What a call answers of a text that is no right pattern's; an empty list if it is one's.
+def pattern_refusal(t):
+    fault = text_fault(t)
+    if fault >= 0:
+        return [-6, fault]
+    wrong = wrong_beat(read_beats(t))
+    if wrong >= 0:
+        return [-5, wrong]
+    return []
+
+
+def heights_of(beats):
+    heights = []
+    for beat in beats:
+        heights.extend(beat)
+    return heights
+
+
+def turned_by(beats, shift):
+    return beats[shift:] + beats[:shift]
+
+
+def root_of(beats):
+    period = len(beats)
+    for part in range(1, period):
+        if period % part == 0 and beats[:part] * (period // part) == beats:
+            return beats[:part]
+    return list(beats)
+
+
+def form_of(beats):
+    root = root_of(beats)
+    return max([turned_by(root, shift) for shift in range(len(root))])
+
+
+# No throw is higher than fifteen, so nothing thrown longer ago than fifteen beats is in the air.
+def state_before(beats, moment):
+    state = [0] * SPAN
+    for ago in range(1, SPAN + 1):
+        for height in beats[(moment - ago) % len(beats)]:
+            if height >= ago:
+                state[height - ago] += 1
+    return tuple(state)

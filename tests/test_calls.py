@@ -1,0 +1,100 @@
+"""What holds of every call: its name and arguments, what is handed in, nothing kept, no deep nesting."""
+
+import inspect
+import sys
+import unittest
+
+from jugglebench import bench
+from telling import Fixed, text
+
+INTERFACE = {
+    "judge": ["t"],
+    "form": ["t"],
+    "air": ["k", "t"],
+}
+
+CALLS = [
+    ("judge", [text("24[45]")]),
+    ("judge", [text("441441")]),
+    ("judge", [text("21")]),
+    ("judge", [text("[3")]),
+    ("form", [text("24[45]")]),
+    ("form", [text("144144")]),
+    ("form", [text("[123]")]),
+    ("form", [text("21")]),
+    ("form", [text("3x")]),
+    ("air", [5, text("24[45]")]),
+    ("air", [4294967295, text("[fff]")]),
+    ("air", [0, text("21")]),
+    ("air", [0, []]),
+]
+
+LONG_CALLS = [
+    ("judge", [text("[33]" * 16)]),
+    ("form", [text("3" * 13 + "423")]),
+    ("air", [4294967295, text("[33]" * 16)]),
+    ("judge", [text("[" * 64)]),
+    ("judge", [text("3" * 64)]),
+]
+
+
+def copied(arguments, kind):
+    return [kind(argument) if isinstance(argument, list) else argument for argument in arguments]
+
+
+def answer_of(name, arguments):
+    return getattr(bench, name)(*arguments)
+
+
+class CallsTest(unittest.TestCase):
+    def test_names_and_arguments(self):
+        for name, parameters in INTERFACE.items():
+            signature = inspect.signature(getattr(bench, name))
+            self.assertEqual(list(signature.parameters), parameters)
+
+    def test_every_call_is_tried(self):
+        self.assertEqual({name for name, arguments in CALLS}, set(INTERFACE))
+
+    def test_a_list_of_whole_numbers_is_given_back(self):
+        for name, arguments in CALLS:
+            answer = answer_of(name, arguments)
+            self.assertIs(type(answer), list)
+            self.assertEqual({type(number) for number in answer}, {int})
+
+    def test_what_is_handed_in_is_as_it_was(self):
+        for name, arguments in CALLS:
+            handed = copied(arguments, list)
+            answer_of(name, handed)
+            self.assertEqual(handed, arguments)
+
+    def test_what_is_handed_in_is_not_changed_for_a_while_either(self):
+        for name, arguments in CALLS:
+            self.assertEqual(answer_of(name, copied(arguments, Fixed)), answer_of(name, arguments))
+
+    def test_what_is_given_back_is_not_what_was_handed_in(self):
+        for name, arguments in CALLS:
+            answer = answer_of(name, arguments)
+            self.assertFalse(any(answer is argument for argument in arguments))
+
+    def test_a_second_call_answers_as_the_first_did(self):
+        first = [answer_of(name, arguments) for name, arguments in CALLS]
+        kept = [list(answer) for answer in first]
+        for answer in first:
+            answer.clear()
+        backwards = [answer_of(name, arguments) for name, arguments in reversed(CALLS)]
+        self.assertEqual(backwards[::-1], kept)
+
+    def test_no_deep_nesting(self):
+        limit = sys.getrecursionlimit()
+        depth = len(inspect.stack())
+        wanted = [answer_of(name, arguments) for name, arguments in LONG_CALLS]
+        sys.setrecursionlimit(depth + 40)
+        try:
+            answers = [answer_of(name, arguments) for name, arguments in LONG_CALLS]
+        finally:
+            sys.setrecursionlimit(limit)
+        self.assertEqual(answers, wanted)
+
+
+if __name__ == "__main__":
+    unittest.main()
