@@ -1,14 +1,24 @@
 """The calls of the bench. Each answers one list of whole numbers; a refusal begins with one below 0."""
 
 from jugglebench.patterns import (
+    MOST_THROWS,
     form_of,
     heights_of,
+    is_state,
     pattern_refusal,
     read_beats,
     root_of,
+    shortest_row,
+    state_after,
     state_before,
+    text_fault,
     told_text,
+    whole_state,
 )
+
+MOST_WAY_HEIGHT = 8
+MOST_WAY_LANDING = 2
+MOST_WAY_BALLS = 5
 
 
 def judge(t):
@@ -34,3 +44,55 @@ def air(k, t):
     if len(refusal) > 0:
         return refusal
     return list(state_before(read_beats(t), k))
+
+
+# More than 3 on a beat need only be looked for at the end: if the beats went on to it, none could throw as many.
+def after(s, t):
+    if not is_state(s):
+        return [-1]
+    fault = text_fault(t)
+    if fault >= 0:
+        return [-6, fault]
+    state = whole_state(s)
+    for beat in read_beats(t):
+        if state[0] != len(beat):
+            return [-5]
+        state = state_after(state, beat)
+    if max(state) > MOST_THROWS:
+        return [-3]
+    return list(state)
+
+
+def fits_way(high, most, s):
+    if not is_state(s) or sum(s) > MOST_WAY_BALLS:
+        return False
+    return max(s, default=0) <= most and sum(s[high:]) == 0
+
+
+def is_way_asked(high, most, s, u):
+    if not (1 <= high <= MOST_WAY_HEIGHT and 1 <= most <= MOST_WAY_LANDING):
+        return False
+    return fits_way(high, most, s) and fits_way(high, most, u) and sum(s) == sum(u)
+
+
+def way(high, most, s, u):
+    if not is_way_asked(high, most, s, u):
+        return [-1]
+    row = shortest_row(high, most, whole_state(s), whole_state(u))
+    if row is None:
+        return [-4]
+    return told_text(row)
+
+
+def join(high, most, t, u):
+    refusal = pattern_refusal(t)
+    if len(refusal) == 0:
+        refusal = pattern_refusal(u)
+    if len(refusal) > 0:
+        return refusal
+    here = list(state_before(read_beats(t), 0))
+    there = list(state_before(read_beats(u), 0))
+    forth = way(high, most, here, there)
+    if forth == [-1]:
+        return forth
+    return forth + way(high, most, there, here)

@@ -8,6 +8,7 @@ fifteen numbers.
 MOST_BEATS = 16
 MOST_THROWS = 3
 SPAN = 15
+MOST_ROW = 39
 
 ZERO = 48
 NINE = 57
@@ -143,7 +144,7 @@ def turned_by(beats, shift):
 def root_of(beats):
     period = len(beats)
     for part in range(1, period):
-        if period % part == 0 and beats[:part] * (period // part) == beats:
+        if beats[:part] * (period // part) == beats:
             return beats[:part]
     return list(beats)
 
@@ -161,3 +162,54 @@ def state_before(beats, moment):
             if height >= ago:
                 state[height - ago] += 1
     return tuple(state)
+
+
+def is_state(s):
+    return len(s) <= SPAN and all([number <= MOST_THROWS for number in s])
+
+
+def whole_state(s):
+    return tuple(s) + (0,) * (SPAN - len(s))
+
+
+def state_after(state, beat):
+    moved = list(state[1:]) + [0]
+    for height in beat:
+        moved[height - 1] += 1
+    return tuple(moved)
+
+
+# Every beat of so many throws, none higher than high, the least first.
+def beats_up_to(high, throws):
+    beats = [[]]
+    for done in range(throws):
+        longer = []
+        for beat in beats:
+            highest = beat[-1] if len(beat) > 0 else high
+            longer.extend([beat + [height] for height in range(1, highest + 1)])
+        beats = longer
+    return beats
+
+
+# Adds to rows, which holds of each state come to so far the beats that lead there, what one beat more leads to.
+def next_layer(high, most, layer, rows):
+    following = []
+    for state in layer:
+        for beat in beats_up_to(high, state[0]):
+            landed = state_after(state, beat)
+            if max(landed) <= most and landed not in rows:
+                rows[landed] = rows[state] + [beat]
+                following.append(landed)
+    return following
+
+
+# The states of a layer stand in the order of the rows of beats that lead to them, and beats are tried from the least
+# on: so the row by which a state is come to first is the least of its shortest ones. None if there is no row.
+def shortest_row(high, most, start, goal):
+    rows = {start: []}
+    layer = [start]
+    for done in range(MOST_ROW):
+        if goal in rows:
+            break
+        layer = next_layer(high, most, layer, rows)
+    return rows.get(goal)

@@ -1,6 +1,6 @@
 """What the tests share: texts and states in short, and plain oracles that go through time beat by beat."""
 
-from itertools import product
+from itertools import combinations_with_replacement, product
 
 DIGITS = "0123456789abcdef"
 HIGHEST = 15
@@ -82,3 +82,75 @@ def small_words():
 
 def small_patterns():
     return [word for word in small_words() if wrong_beat(heights(word)) is None]
+
+
+def whole(numbers):
+    return tuple(numbers) + (0,) * (HIGHEST - len(numbers))
+
+
+def done(numbers, beat):
+    """The state when a beat is done, whatever lands then."""
+    moved = list(numbers[1:]) + [0]
+    for height in beat:
+        moved[height - 1] += 1
+    return tuple(moved)
+
+
+def beats_of(throws, high):
+    """All beats of so many throws, the least first."""
+    return sorted(combinations_with_replacement(range(high, 0, -1), throws))
+
+
+def states_of(high, most, balls):
+    return [whole(numbers) for numbers in product(range(most + 1), repeat=high) if sum(numbers) == balls]
+
+
+def rows_from(start, length, high, most):
+    """All rows of so many beats with the states they lead to, the least first."""
+    if length == 0:
+        yield [], start
+        return
+    for beat in beats_of(start[0], high):
+        following = done(start, beat)
+        if max(following) <= most:
+            for row, end in rows_from(following, length - 1, high, most):
+                yield [beat] + row, end
+
+
+def first_way(start, goal, high, most):
+    """Every row is tried, the shorter ones first, then the lesser ones."""
+    for length in range(40):
+        for row, end in rows_from(start, length, high, most):
+            if end == goal:
+                return row
+    return None
+
+
+class Leads:
+    """All states of so many balls, and how far each is from a goal, told from the goal backwards."""
+
+    def __init__(self, high, most, balls):
+        self.states = states_of(high, most, balls)
+        self.following = {}
+        for numbers in self.states:
+            pairs = [(beat, done(numbers, beat)) for beat in beats_of(numbers[0], high)]
+            self.following[numbers] = [(beat, end) for beat, end in pairs if max(end) <= most]
+
+    def distances(self, goal):
+        far = {goal: 0}
+        found = True
+        while found:
+            found = {}
+            for numbers in self.states:
+                ends = [far[end] for beat, end in self.following[numbers] if end in far]
+                if numbers not in far and ends:
+                    found[numbers] = min(ends) + 1
+            far.update(found)
+        return far
+
+    def first_way(self, start, far):
+        row = []
+        while far[start] > 0:
+            beat, start = min((beat, end) for beat, end in self.following[start] if far[end] == far[start] - 1)
+            row.append(beat)
+        return row
