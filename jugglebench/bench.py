@@ -1,18 +1,25 @@
 """The calls of the bench. Each answers one list of whole numbers; a refusal begins with one below 0."""
 
 from jugglebench.patterns import (
+    MOST_HEIGHT,
     MOST_THROWS,
+    beats_of,
     form_of,
     heights_of,
     is_state,
+    most_throws_of,
+    orbits_of,
     pattern_refusal,
     read_beats,
     root_of,
+    row_of,
     shortest_row,
     state_after,
     state_before,
+    swapped,
     text_fault,
     told_text,
+    turned_by,
     whole_state,
 )
 
@@ -28,8 +35,7 @@ def judge(t):
     beats = read_beats(t)
     heights = heights_of(beats)
     balls = sum(heights) // len(beats)
-    widest = max([len(beat) for beat in beats])
-    return [balls, len(beats), max(heights, default=0), widest, len(root_of(beats))]
+    return [balls, len(beats), max(heights, default=0), most_throws_of(beats), len(root_of(beats))]
 
 
 def form(t):
@@ -96,3 +102,40 @@ def join(high, most, t, u):
     if forth == [-1]:
         return forth
     return forth + way(high, most, there, here)
+
+
+def orbits(t):
+    refusal = pattern_refusal(t)
+    if len(refusal) > 0:
+        return refusal
+    beats = read_beats(t)
+    if most_throws_of(beats) > 1:
+        return [-1]
+    row = row_of(beats)
+    found = orbits_of(row)
+    answer = [len(found)]
+    for orbit in found:
+        balls = sum([row[beat] for beat in orbit]) // len(row)
+        answer.extend([orbit[0], balls])
+    return answer
+
+
+def swap(i, j, t):
+    refusal = pattern_refusal(t)
+    if len(refusal) > 0:
+        return refusal
+    beats = read_beats(t)
+    if most_throws_of(beats) > 1 or not i < j < len(beats):
+        return [-1]
+    row = swapped(row_of(beats), i, j)
+    if min(row) < 0 or max(row) > MOST_HEIGHT:
+        return [-3]
+    return told_text(beats_of(row))
+
+
+def turn(k, t):
+    refusal = pattern_refusal(t)
+    if len(refusal) > 0:
+        return refusal
+    beats = read_beats(t)
+    return told_text(turned_by(beats, k % len(beats)))

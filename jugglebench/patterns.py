@@ -7,6 +7,7 @@ fifteen numbers.
 
 MOST_BEATS = 16
 MOST_THROWS = 3
+MOST_HEIGHT = 15
 SPAN = 15
 MOST_ROW = 39
 
@@ -135,6 +136,42 @@ def heights_of(beats):
     for beat in beats:
         heights.extend(beat)
     return heights
+
+
+def most_throws_of(beats):
+    return max([len(beat) for beat in beats])
+
+
+# Single throws are told more plainly by their heights alone, 0 for a beat without one: such a row of heights.
+def row_of(beats):
+    return [sum(beat) for beat in beats]
+
+
+def beats_of(row):
+    return [[height] if height > 0 else [] for height in row]
+
+
+# A right row's throws lead from each beat to another one each, so the beat an orbit began with comes again.
+def orbit_from(row, start):
+    orbit = [start]
+    beat = (start + row[start]) % len(row)
+    while beat != start:
+        orbit.append(beat)
+        beat = (beat + row[beat]) % len(row)
+    return orbit
+
+
+def orbits_of(row):
+    found = [orbit_from(row, start) for start in range(len(row))]
+    return [orbit for orbit in found if orbit[0] == min(orbit)]
+
+
+def swapped(row, early, late):
+    gap = late - early
+    changed = list(row)
+    changed[early] = row[late] + gap
+    changed[late] = row[early] - gap
+    return changed
 
 
 def turned_by(beats, shift):

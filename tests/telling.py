@@ -1,6 +1,8 @@
 """What the tests share: texts and states in short, and plain oracles that go through time beat by beat."""
 
+from functools import lru_cache
 from itertools import combinations_with_replacement, product
+from math import gcd
 
 DIGITS = "0123456789abcdef"
 HIGHEST = 15
@@ -82,6 +84,21 @@ def small_words():
 
 def small_patterns():
     return [word for word in small_words() if wrong_beat(heights(word)) is None]
+
+
+def steps_patterns():
+    """Patterns of 5 to 16 beats, all heights among them: the throw of beat i lands where a times i and c lead."""
+    for period in range(5, 17):
+        for a, c in product(range(1, period), (0, 1, period - 1)):
+            if gcd(a, period) == 1:
+                yield "".join(DIGITS[(a * i + c - i) % period] for i in range(period))
+
+
+@lru_cache(maxsize=None)
+def single_patterns():
+    """Right patterns of at most one throw on each beat: all short ones of some heights, and longer ones."""
+    words = ["".join(row) for length in (1, 2, 3, 4) for row in product("0123457f", repeat=length)]
+    return [word for word in words if wrong_beat(heights(word)) is None] + list(steps_patterns())
 
 
 def whole(numbers):

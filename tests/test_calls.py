@@ -14,6 +14,9 @@ INTERFACE = {
     "after": ["s", "t"],
     "way": ["high", "most", "s", "u"],
     "join": ["high", "most", "t", "u"],
+    "orbits": ["t"],
+    "swap": ["i", "j", "t"],
+    "turn": ["k", "t"],
 }
 
 CALLS = [
@@ -45,6 +48,22 @@ CALLS = [
     ("join", [3, 1, text("3"), text("3")]),
     ("join", [0, 1, text("3"), text("3")]),
     ("join", [5, 1, text("3"), text("21")]),
+    ("orbits", [text("531")]),
+    ("orbits", [text("000")]),
+    ("orbits", [text("[21]")]),
+    ("orbits", [text("21")]),
+    ("orbits", [text("3x")]),
+    ("swap", [0, 2, text("531")]),
+    ("swap", [0, 1, text("40")]),
+    ("swap", [0, 1, text("[43]23")]),
+    ("swap", [4294967295, 4294967295, text("531")]),
+    ("swap", [0, 1, text("ff")]),
+    ("swap", [0, 1, text("21")]),
+    ("swap", [0, 1, text("[")]),
+    ("turn", [0, text("24[45]")]),
+    ("turn", [4294967295, text("1[231]2")]),
+    ("turn", [1, text("21")]),
+    ("turn", [1, text("3x")]),
 ]
 
 LONG_CALLS = [
@@ -57,6 +76,10 @@ LONG_CALLS = [
     ("way", [8, 2, [2, 2, 1], [0, 0, 0, 0, 0, 1, 2, 2]]),
     ("join", [8, 2, text("97531"), text("24[54]")]),
     ("join", [8, 2, text("[22]" * 16), text("4" * 16)]),
+    ("orbits", [text("5" * 16)]),
+    ("orbits", [text("0" * 16)]),
+    ("swap", [0, 14, text("f" + "0" * 14 + "1")]),
+    ("turn", [4294967295, text("[33]" * 16)]),
 ]
 
 

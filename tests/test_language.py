@@ -113,6 +113,8 @@ class LanguageTest(unittest.TestCase):
                 self.assertRegex(bound, r"^[A-Za-z][A-Za-z0-9_]*$", name)
                 self.assertFalse(hasattr(builtins, bound), bound)
                 self.assertNotIn(bound, UNUSED, name)
+            imported = [alias.name for node in tree.body if isinstance(node, ast.ImportFrom) for alias in node.names]
+            self.assertEqual(set(bound_names(tree)) & set(imported), set(), name)
             tops = [node.name for node in tree.body if isinstance(node, ast.FunctionDef)]
             self.assertEqual(len(tops), len(set(tops)), name)
 

@@ -2,15 +2,18 @@
 
 import unittest
 
-from jugglebench.bench import air, form, judge
+from jugglebench.bench import air, form, judge, orbits, swap, turn
 from telling import heights, small_words, text, wrong_beat
 
-CALLS = [judge, form, lambda t: air(0, t), lambda t: air(4294967295, t)]
+LAST = 4294967295
+
+CALLS = [judge, form, lambda t: air(0, t), orbits, lambda t: swap(0, 1, t), lambda t: turn(1, t)]
+GREATEST_CALLS = [lambda t: air(LAST, t), lambda t: swap(LAST, LAST, t), lambda t: turn(LAST, t)]
 
 
 class TextTest(unittest.TestCase):
     def refused(self, t, answer):
-        for call in CALLS:
+        for call in CALLS + GREATEST_CALLS:
             self.assertEqual(call(list(t)), answer)
 
     def fault(self, word, place):
@@ -141,9 +144,9 @@ class RightTest(TextTest):
     def test_as_time_gone_through_beat_by_beat_tells(self):
         for word in small_words():
             beat = wrong_beat(heights(word))
-            for call in CALLS[:3]:
+            for call in CALLS:
                 if beat is None:
-                    self.assertGreaterEqual(call(text(word))[0], 0)
+                    self.assertNotIn(call(text(word))[0], (-5, -6))
                 else:
                     self.assertEqual(call(text(word)), [-5, beat])
 
