@@ -4,15 +4,18 @@ from jugglebench.patterns import (
     MOST_HEIGHT,
     MOST_THROWS,
     beats_of,
+    count_rows,
     form_of,
     heights_of,
     is_state,
+    lifted_by,
     most_throws_of,
     orbits_of,
     pattern_refusal,
     read_beats,
     root_of,
     row_of,
+    seen_backwards,
     shortest_row,
     state_after,
     state_before,
@@ -21,11 +24,14 @@ from jugglebench.patterns import (
     told_text,
     turned_by,
     whole_state,
+    wrong_beat,
 )
 
 MOST_WAY_HEIGHT = 8
 MOST_WAY_LANDING = 2
 MOST_WAY_BALLS = 5
+MOST_COUNTED_BEATS = 5
+MOST_COUNTED_BALLS = 8
 
 
 def judge(t):
@@ -139,3 +145,32 @@ def turn(k, t):
         return refusal
     beats = read_beats(t)
     return told_text(turned_by(beats, k % len(beats)))
+
+
+def back(t):
+    refusal = pattern_refusal(t)
+    if len(refusal) > 0:
+        return refusal
+    return told_text(seen_backwards(read_beats(t)))
+
+
+def lift(d, t):
+    refusal = pattern_refusal(t)
+    if len(refusal) > 0:
+        return refusal
+    if d > MOST_HEIGHT:
+        return [-1]
+    beats = lifted_by(read_beats(t), d)
+    if max(heights_of(beats), default=0) > MOST_HEIGHT or wrong_beat(beats) >= 0:
+        return [-3]
+    return told_text(beats)
+
+
+def is_count_asked(n, b, high):
+    return 1 <= n <= MOST_COUNTED_BEATS and b <= MOST_COUNTED_BALLS and high <= MOST_HEIGHT
+
+
+def count(n, b, high):
+    if not is_count_asked(n, b, high):
+        return [-1]
+    return [count_rows(n, b, high)]

@@ -178,6 +178,45 @@ def turned_by(beats, shift):
     return beats[shift:] + beats[:shift]
 
 
+def seen_backwards(beats):
+    period = len(beats)
+    mirrored = [[] for beat in beats]
+    for start in range(period):
+        for height in beats[start]:
+            mirrored[-(start + height) % period].append(height)
+    return [sorted(beat, reverse=True) for beat in mirrored]
+
+
+# Among single throws a height of 0 is lifted like any other.
+def lifted_by(beats, rise):
+    if most_throws_of(beats) <= 1:
+        return beats_of([height + rise for height in row_of(beats)])
+    lifted = []
+    for beat in beats:
+        lifted.append([height + rise for height in beat])
+    return lifted
+
+
+# Rows of single throws are told apart by what matters for the beats to come alone: the beats of the period that are
+# landed on so far, a bit for each, and the sum of the heights. counts has of each such pair how many rows there are.
+def counts_with_beat(counts, beat, period, high):
+    longer = {}
+    for pair in counts:
+        for height in range(high + 1):
+            landing = 1 << ((beat + height) % period)
+            if pair[0] & landing == 0:
+                reached = (pair[0] | landing, pair[1] + height)
+                longer[reached] = longer.get(reached, 0) + counts[pair]
+    return longer
+
+
+def count_rows(period, balls, high):
+    counts = {(0, 0): 1}
+    for beat in range(period):
+        counts = counts_with_beat(counts, beat, period, high)
+    return counts.get(((1 << period) - 1, period * balls), 0)
+
+
 def root_of(beats):
     period = len(beats)
     for part in range(1, period):

@@ -101,6 +101,18 @@ def single_patterns():
     return [word for word in words if wrong_beat(heights(word)) is None] + list(steps_patterns())
 
 
+@lru_cache(maxsize=None)
+def stacked_patterns():
+    """Right patterns of up to three throws on a beat: two or three of single throws, thrown at the same time."""
+    words = []
+    for period in range(1, 17):
+        rows = [heights(word) for word in single_patterns() if len(word) == period]
+        for first, second, third in zip(rows, rows[1::2], rows[2::3]):
+            pair = [sorted(beat + other, reverse=True) for beat, other in zip(first, second)]
+            words += [word_of(pair), word_of([sorted(beat + other) for beat, other in zip(pair, third)])]
+    return [word for word in words if len(word) <= 64]
+
+
 def whole(numbers):
     return tuple(numbers) + (0,) * (HIGHEST - len(numbers))
 

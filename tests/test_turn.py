@@ -1,7 +1,7 @@
 import unittest
 
 from jugglebench.bench import judge, turn
-from telling import heights, single_patterns, small_patterns, text, told, word_of
+from telling import heights, single_patterns, small_patterns, stacked_patterns, text, told, word_of
 
 LAST = 4294967295
 
@@ -105,13 +105,13 @@ class TurnTest(unittest.TestCase):
             self.refused(k, "3333333333333330", -5, 2)
 
     def test_what_is_answered_is_right_and_of_as_many_balls(self):
-        for word in small_patterns() + single_patterns():
+        for word in small_patterns() + single_patterns() + stacked_patterns():
             for k in (0, 1, 2, LAST):
                 answer = turn(k, text(word))
                 self.assertEqual(judge(answer[1:]), judge(text(word)))
 
     def test_as_the_beats_asked_one_by_one_tell(self):
-        for word in small_patterns() + single_patterns():
+        for word in small_patterns() + single_patterns() + stacked_patterns():
             for k in (0, 1, 2, 3, 4, 15, 16, 17, LAST - 1, LAST):
                 self.turned(k, word, thrown_from(word, k))
 
