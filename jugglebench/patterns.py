@@ -142,7 +142,7 @@ def most_throws_of(beats):
     return max([len(beat) for beat in beats])
 
 
-# Single throws are told more plainly by their heights alone, 0 for a beat without one: such a row of heights.
+# Single throws can be told by a row of heights, 0 for a beat without a throw: then every beat lands somewhere.
 def row_of(beats):
     return [sum(beat) for beat in beats]
 
@@ -183,7 +183,7 @@ def seen_backwards(beats):
     mirrored = [[] for beat in beats]
     for start in range(period):
         for height in beats[start]:
-            mirrored[-(start + height) % period].append(height)
+            mirrored[(-start - height) % period].append(height)
     return [sorted(beat, reverse=True) for beat in mirrored]
 
 
@@ -204,7 +204,7 @@ def counts_with_beat(counts, beat, period, high):
     for pair in counts:
         for height in range(high + 1):
             landing = 1 << ((beat + height) % period)
-            if pair[0] & landing == 0:
+            if (pair[0] & landing) == 0:
                 reached = (pair[0] | landing, pair[1] + height)
                 longer[reached] = longer.get(reached, 0) + counts[pair]
     return longer
