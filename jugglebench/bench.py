@@ -3,6 +3,7 @@
 from jugglebench.patterns import (
     MOST_HEIGHT,
     MOST_THROWS,
+    ball_throws,
     beats_of,
     count_rows,
     form_of,
@@ -10,11 +11,13 @@ from jugglebench.patterns import (
     is_state,
     lifted_by,
     most_throws_of,
+    number_of_row,
     orbits_of,
     pattern_refusal,
     read_beats,
     root_of,
     row_of,
+    row_of_number,
     seen_backwards,
     shortest_row,
     state_after,
@@ -32,6 +35,8 @@ MOST_WAY_LANDING = 2
 MOST_WAY_BALLS = 5
 MOST_COUNTED_BEATS = 5
 MOST_COUNTED_BALLS = 8
+MOST_SINCE = 200
+MOST_RUN_BEATS = 40
 
 
 def judge(t):
@@ -173,4 +178,40 @@ def is_count_asked(n, b, high):
 def count(n, b, high):
     if not is_count_asked(n, b, high):
         return [-1]
-    return [count_rows(n, b, high)]
+    return [count_rows([], n, b, high)]
+
+
+def nth(n, b, high, i):
+    if not is_count_asked(n, b, high):
+        return [-1]
+    if i >= count_rows([], n, b, high):
+        return [-4]
+    return told_text(beats_of(row_of_number(i, n, b, high)))
+
+
+def place(high, t):
+    refusal = pattern_refusal(t)
+    if len(refusal) > 0:
+        return refusal
+    beats = read_beats(t)
+    row = row_of(beats)
+    balls = sum(row) // len(row)
+    if most_throws_of(beats) > 1 or not is_count_asked(len(row), balls, high):
+        return [-1]
+    if max(row) > high:
+        return [-4]
+    return [number_of_row(row, balls, high)]
+
+
+def runs(since, beats, t):
+    refusal = pattern_refusal(t)
+    if len(refusal) > 0:
+        return refusal
+    if since > MOST_SINCE or beats > MOST_RUN_BEATS:
+        return [-1]
+    answer = [beats]
+    for pairs in ball_throws(read_beats(t), since + beats)[since:]:
+        answer.append(len(pairs))
+        for pair in pairs:
+            answer.extend(pair)
+    return answer

@@ -199,10 +199,10 @@ def lifted_by(beats, rise):
 
 # Rows of single throws are told apart by what matters for the beats to come alone: the beats of the period that are
 # landed on so far, a bit for each, and the sum of the heights. counts has of each such pair how many rows there are.
-def counts_with_beat(counts, beat, period, high):
+def counts_with_beat(counts, beat, period, heights):
     longer = {}
     for pair in counts:
-        for height in range(high + 1):
+        for height in heights:
             landing = 1 << ((beat + height) % period)
             if (pair[0] & landing) == 0:
                 reached = (pair[0] | landing, pair[1] + height)
@@ -210,11 +210,36 @@ def counts_with_beat(counts, beat, period, high):
     return longer
 
 
-def count_rows(period, balls, high):
+# How many right rows there are that begin with the heights of begun.
+def count_rows(begun, period, balls, high):
     counts = {(0, 0): 1}
     for beat in range(period):
-        counts = counts_with_beat(counts, beat, period, high)
+        heights = [begun[beat]] if beat < len(begun) else list(range(high + 1))
+        counts = counts_with_beat(counts, beat, period, heights)
     return counts.get(((1 << period) - 1, period * balls), 0)
+
+
+# Only asked for a number below that of all such rows, so the height on each beat is sure to be found.
+def row_of_number(number, period, balls, high):
+    row = []
+    left = number
+    for beat in range(period):
+        height = 0
+        passed = count_rows(row + [height], period, balls, high)
+        while passed <= left:
+            left -= passed
+            height += 1
+            passed = count_rows(row + [height], period, balls, high)
+        row.append(height)
+    return row
+
+
+def number_of_row(row, balls, high):
+    lesser = 0
+    for beat in range(len(row)):
+        for height in range(row[beat]):
+            lesser += count_rows(row[:beat] + [height], len(row), balls, high)
+    return lesser
 
 
 def root_of(beats):
@@ -238,6 +263,29 @@ def state_before(beats, moment):
             if height >= ago:
                 state[height - ago] += 1
     return tuple(state)
+
+
+# Every ball lands from beat 0 on for the first time as the state before it tells, so that state numbers them all.
+def first_landings(beats):
+    state = state_before(beats, 0)
+    landings = []
+    numbered = 0
+    for landing in state:
+        landings.append(list(range(numbered, numbered + landing)))
+        numbered += landing
+    return landings
+
+
+# Of each beat before the end: the balls that land on it, the least number first, each with the height it's thrown.
+def ball_throws(beats, end):
+    landings = first_landings(beats) + [[] for moment in range(end)]
+    throws = []
+    for moment in range(end):
+        pairs = list(zip(sorted(landings[moment]), beats[moment % len(beats)]))
+        for pair in pairs:
+            landings[moment + pair[1]].append(pair[0])
+        throws.append(pairs)
+    return throws
 
 
 def is_state(s):

@@ -74,6 +74,23 @@ def air_before(beats, moment):
     return [landing_on(beats, moment + ahead, moment) for ahead in range(HIGHEST)]
 
 
+def thrown_balls(beats, since, length):
+    """Of each beat from since on the balls thrown and their heights; every ball is followed from landing to landing."""
+    lands = []
+    for moment in range(-HIGHEST, 0):
+        lands += [moment + height for height in beats[moment % len(beats)] if moment + height >= 0]
+    lands.sort()
+    told_beats = []
+    for moment in range(since + length):
+        here = [ball for ball, landing in enumerate(lands) if landing == moment]
+        highest_first = sorted(beats[moment % len(beats)], reverse=True)
+        assert len(here) == len(highest_first)
+        for ball, height in zip(here, highest_first):
+            lands[ball] = moment + height
+        told_beats.append(list(zip(here, highest_first)))
+    return told_beats[since:]
+
+
 def small_words():
     """Every text of one to three beats out of a few kinds of beats, right or not."""
     kinds = ["0", "1", "2", "3", "5", "f", "[21]", "[12]", "[33]", "[321]"]
@@ -92,6 +109,19 @@ def steps_patterns():
         for a, c in product(range(1, period), (0, 1, period - 1)):
             if gcd(a, period) == 1:
                 yield "".join(DIGITS[(a * i + c - i) % period] for i in range(period))
+
+
+def is_right(row):
+    """Of single throws: no two land on the same beat of the period."""
+    period = len(row)
+    return len({(beat + height) % period for beat, height in enumerate(row)}) == period
+
+
+@lru_cache(maxsize=None)
+def right_words(n, b, high):
+    """The texts of all right rows of n heights up to high, of b balls, the least first: all rows are gone through."""
+    rows = product(range(high + 1), repeat=n)
+    return ["".join(DIGITS[height] for height in row) for row in rows if sum(row) == n * b and is_right(row)]
 
 
 @lru_cache(maxsize=None)

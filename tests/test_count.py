@@ -2,14 +2,9 @@ import unittest
 from itertools import product
 
 from jugglebench.bench import count
-from telling import DIGITS, HIGHEST, heights, wrong_beat
+from telling import DIGITS, HIGHEST, heights, is_right, wrong_beat
 
 LAST = 4294967295
-
-
-def is_right(row):
-    period = len(row)
-    return len({(beat + height) % period for beat, height in enumerate(row)}) == period
 
 
 def tally(period):

@@ -32,6 +32,10 @@ type typing typing_extensions enum Enum IntEnum StrEnum Flag IntFlag Generic Pro
 NamedTuple TypedDict TYPE_CHECKING abstractmethod
 """.split()
 
+WALKED = "zip enumerate reversed range items keys values".split()
+
+WALKERS = "list tuple dict sorted sum any all enumerate zip min max".split()
+
 UNUSED = "register mro elements open input version_info with_traceback add_note".split()
 
 
@@ -124,6 +128,19 @@ class LanguageTest(unittest.TestCase):
                 self.assertIn(node.id, OWN_NAMES, place)
             if isinstance(node, ast.Attribute):
                 self.assertIn(node.attr, METHODS, place)
+
+    def test_what_is_walked_at_once(self):
+        walked = []
+        for place, node in self.each_node():
+            if isinstance(node, (ast.For, ast.comprehension)):
+                walked.append(node.iter)
+            if isinstance(node, ast.Call) and isinstance(node.func, ast.Name) and node.func.id in WALKERS:
+                walked.extend(node.args[:1])
+        dumped = [ast.dump(node, include_attributes=True) for node in walked]
+        for place, node in self.each_node():
+            if isinstance(node, ast.Call):
+                name = node.func.id if isinstance(node.func, ast.Name) else node.func.attr
+                self.assertTrue(name not in WALKED or ast.dump(node, include_attributes=True) in dumped, place)
 
     def test_the_top_of_a_module(self):
         for name, source in sources().items():

@@ -166,7 +166,8 @@ class SeveralTest(LiftTest):
         self.lifted(2, "[d1][1d]", "[f3][f3]")
 
     def test_how_many_balls_it_has_then(self):
-        for d, word, balls in [(1, "[21]", 5), (2, "[321]", 12), (3, "24[54]", 9), (3, "[22]0[11]", 6), (2, "[22]0", 4)]:
+        for d, word, balls in [(1, "[21]", 5), (2, "[321]", 12), (3, "24[54]", 9), (3, "[22]0[11]", 6),
+                               (2, "[22]0", 4)]:
             self.assertEqual(judge(lift(d, text(word))[1:])[0], balls)
 
     def test_as_time_gone_through_beat_by_beat_tells(self):
