@@ -6,6 +6,7 @@ from jugglebench.patterns import (
     ball_throws,
     beats_of,
     count_rows,
+    different_states,
     form_of,
     heights_of,
     is_state,
@@ -101,10 +102,15 @@ def way(high, most, s, u):
     return told_text(row)
 
 
-def join(high, most, t, u):
+def pair_refusal(t, u):
     refusal = pattern_refusal(t)
-    if len(refusal) == 0:
-        refusal = pattern_refusal(u)
+    if len(refusal) > 0:
+        return refusal
+    return pattern_refusal(u)
+
+
+def join(high, most, t, u):
+    refusal = pair_refusal(t, u)
     if len(refusal) > 0:
         return refusal
     here = list(state_before(read_beats(t), 0))
@@ -215,3 +221,19 @@ def runs(since, beats, t):
         for pair in pairs:
             answer.extend(pair)
     return answer
+
+
+def prime(t):
+    refusal = pattern_refusal(t)
+    if len(refusal) > 0:
+        return refusal
+    beats = read_beats(t)
+    root = root_of(beats)
+    return [1 if different_states(root) == len(root) else 0, different_states(beats)]
+
+
+def same(t, u):
+    refusal = pair_refusal(t, u)
+    if len(refusal) > 0:
+        return refusal
+    return [1 if form_of(read_beats(t)) == form_of(read_beats(u)) else 0]

@@ -265,6 +265,10 @@ def state_before(beats, moment):
     return tuple(state)
 
 
+def different_states(beats):
+    return len(set([state_before(beats, moment) for moment in range(len(beats))]))
+
+
 # Every ball lands from beat 0 on for the first time as the state before it tells, so that state numbers them all.
 def first_landings(beats):
     state = state_before(beats, 0)

@@ -1,6 +1,8 @@
 """What holds of every call: its name and arguments, what is handed in, nothing kept, no deep nesting."""
 
+import contextlib
 import inspect
+import io
 import sys
 import unittest
 
@@ -23,6 +25,8 @@ INTERFACE = {
     "nth": ["n", "b", "high", "i"],
     "place": ["high", "t"],
     "runs": ["since", "beats", "t"],
+    "prime": ["t"],
+    "same": ["t", "u"],
 }
 
 CALLS = [
@@ -107,6 +111,14 @@ CALLS = [
     ("runs", [4294967295, 4294967295, text("3")]),
     ("runs", [0, 1, text("21")]),
     ("runs", [0, 1, text("3x")]),
+    ("prime", [text("24[45]")]),
+    ("prime", [text("423423")]),
+    ("prime", [text("21")]),
+    ("prime", [text("3x")]),
+    ("same", [text("24[45]"), text("[54]24")]),
+    ("same", [text("531"), text("441")]),
+    ("same", [text("3"), text("21")]),
+    ("same", [text("3x"), text("21")]),
 ]
 
 LONG_CALLS = [
@@ -131,6 +143,9 @@ LONG_CALLS = [
     ("place", [15, text("ffa00")]),
     ("runs", [200, 40, text("[33]" * 16)]),
     ("runs", [200, 40, text("[fff]" * 12)]),
+    ("prime", [text("[33]" * 16)]),
+    ("prime", [text("7730070730075020")]),
+    ("same", [text("[33]" * 16), text("3" * 16)]),
 ]
 
 
@@ -147,6 +162,21 @@ class CallsTest(unittest.TestCase):
         for name, parameters in INTERFACE.items():
             signature = inspect.signature(getattr(bench, name))
             self.assertEqual(list(signature.parameters), parameters)
+
+    def test_nothing_is_left_to_be_handed_in_otherwise(self):
+        for name in INTERFACE:
+            for parameter in inspect.signature(getattr(bench, name)).parameters.values():
+                self.assertEqual(parameter.kind, parameter.POSITIONAL_OR_KEYWORD)
+                self.assertIs(parameter.default, parameter.empty)
+
+    def test_all_seventeen_are_there(self):
+        self.assertEqual(len(INTERFACE), 17)
+        self.assertEqual([name for name in INTERFACE if not callable(getattr(bench, name, None))], [])
+
+    def test_by_the_names_of_their_arguments(self):
+        for name, arguments in CALLS:
+            named = dict(zip(INTERFACE[name], arguments))
+            self.assertEqual(getattr(bench, name)(**named), answer_of(name, arguments))
 
     def test_every_call_is_tried(self):
         self.assertEqual({name for name, arguments in CALLS}, set(INTERFACE))
@@ -171,6 +201,20 @@ class CallsTest(unittest.TestCase):
         for name, arguments in CALLS:
             answer = answer_of(name, arguments)
             self.assertFalse(any(answer is argument for argument in arguments))
+
+    def test_the_same_list_handed_in_twice(self):
+        handed = Fixed(text("24[45]"))
+        self.assertEqual(bench.same(handed, handed), [1])
+        self.assertEqual(bench.join(8, 2, handed, handed), [0, 0])
+        numbers = Fixed([1, 1, 1])
+        self.assertEqual(bench.way(8, 2, numbers, numbers), [0])
+
+    def test_nothing_is_printed(self):
+        printed = io.StringIO()
+        with contextlib.redirect_stdout(printed), contextlib.redirect_stderr(printed):
+            for name, arguments in CALLS:
+                answer_of(name, arguments)
+        self.assertEqual(printed.getvalue(), "")
 
     def test_a_second_call_answers_as_the_first_did(self):
         first = [answer_of(name, arguments) for name, arguments in CALLS]

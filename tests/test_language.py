@@ -16,7 +16,7 @@ Add Sub Mult FloorDiv Mod BitAnd BitOr BitXor LShift RShift Eq NotEq Lt LtE Gt G
 """.split()
 
 OWN_NAMES = """
-len range enumerate zip min max sum abs sorted reversed int str bool list tuple dict isinstance ord repr any all
+len range enumerate zip min max sum abs sorted reversed int str bool list tuple dict set isinstance ord repr any all
 divmod Exception ValueError TypeError KeyError IndexError LookupError ZeroDivisionError ArithmeticError OverflowError
 RuntimeError NotImplementedError AttributeError StopIteration
 """.split()
@@ -141,6 +141,18 @@ class LanguageTest(unittest.TestCase):
             if isinstance(node, ast.Call):
                 name = node.func.id if isinstance(node.func, ast.Name) else node.func.attr
                 self.assertTrue(name not in WALKED or ast.dump(node, include_attributes=True) in dumped, place)
+
+    def test_a_set_is_neither_kept_nor_walked(self):
+        made = []
+        asked = []
+        for place, node in self.each_node():
+            if isinstance(node, ast.Name) and node.id == "set":
+                made.append((place, node.col_offset))
+            if isinstance(node, ast.Call) and isinstance(node.func, ast.Name) and node.func.id in ("len", "sorted"):
+                first = node.args[0]
+                if isinstance(first, ast.Call) and isinstance(first.func, ast.Name) and first.func.id == "set":
+                    asked.append((f"{place.partition(':')[0]}:{first.lineno}", first.func.col_offset))
+        self.assertEqual(sorted(made), sorted(asked))
 
     def test_the_top_of_a_module(self):
         for name, source in sources().items():

@@ -2,15 +2,17 @@
 
 import unittest
 
-from jugglebench.bench import air, back, form, judge, lift, orbits, place, runs, swap, turn
+from jugglebench.bench import air, back, form, judge, lift, orbits, place, prime, runs, same, swap, turn
 from telling import heights, small_words, text, wrong_beat
 
 LAST = 4294967295
 
 CALLS = [judge, form, lambda t: air(0, t), orbits, lambda t: swap(0, 1, t), lambda t: turn(1, t), back,
-         lambda t: lift(1, t), lambda t: place(15, t), lambda t: runs(0, 2, t)]
+         lambda t: lift(1, t), lambda t: place(15, t), lambda t: runs(0, 2, t), prime,
+         lambda t: same(t, [51]), lambda t: same([51], t)]
 GREATEST_CALLS = [lambda t: air(LAST, t), lambda t: swap(LAST, LAST, t), lambda t: turn(LAST, t),
-                  lambda t: lift(LAST, t), lambda t: place(LAST, t), lambda t: runs(LAST, LAST, t)]
+                  lambda t: lift(LAST, t), lambda t: place(LAST, t), lambda t: runs(LAST, LAST, t),
+                  lambda t: same(t, []), lambda t: same(t, [50, 49])]
 
 
 class TextTest(unittest.TestCase):
