@@ -98,7 +98,7 @@ class NoneTest(WayTest):
     # From each state that may be asked for there is a way of at most high beats to each other of as many balls, so
     # that there's none is only seen where the search is made to find none.
     def test_there_is_one_of_at_most_high_beats(self):
-        for high in range(1, 7):
+        for high in range(1, 9):
             for most in (1, 2):
                 for balls in range(6):
                     leads = Leads(high, most, balls)
